@@ -1,6 +1,7 @@
 """The desk: what each call does, and the numbers that it answers."""
 
-from dayplansdesk.search import best_plan, plan_cost
+from dayplansdesk.keeping import keep_plan, kept_cost, moved_count
+from dayplansdesk.search import best_plan, in_the_way, nearest_plan, plan_cost, possible_plans
 from dayplansdesk.world import CANNOT, Meeting, World
 
 MOST_PEOPLE = 6
@@ -12,6 +13,7 @@ NOT_LET = -1
 NO_SUCH_MEETING = -3
 TOO_MANY_MEETINGS = -5
 NO_PLAN = -6
+ALL_CAN_BE = -6
 
 
 class Desk:
@@ -75,4 +77,46 @@ class Desk:
         plan = best_plan(self.world)
         if plan is None:
             return [NO_PLAN]
-        return [plan_cost(self.world, self.world.meetings, plan)] + plan
+        return [self.cost_of(plan)] + plan
+
+    def keep(self):
+        plan = best_plan(self.world)
+        if plan is None:
+            return [NO_PLAN]
+        keep_plan(self.world.meetings, plan)
+        return [self.cost_of(plan)]
+
+    def nearest(self):
+        plan = nearest_plan(self.world)
+        if plan is None:
+            return [NO_PLAN]
+        return [moved_count(self.world.meetings, plan), self.cost_of(plan)] + plan
+
+    def move(self):
+        plan = nearest_plan(self.world)
+        if plan is None:
+            return [NO_PLAN]
+        # Counted ahead of keeping: once the plan is kept, it moves none.
+        moved = moved_count(self.world.meetings, plan)
+        keep_plan(self.world.meetings, plan)
+        return [moved, self.cost_of(plan)]
+
+    def cost_of(self, plan):
+        return plan_cost(self.world, self.world.meetings, plan)
+
+    def way(self):
+        numbers = in_the_way(self.world)
+        if numbers is None:
+            return [ALL_CAN_BE]
+        return [len(numbers)] + numbers
+
+    def count(self):
+        return [len(possible_plans(self.world, self.world.meetings))]
+
+    def kept(self):
+        hours = [meeting.kept_hour for meeting in self.world.meetings]
+        return [len(hours)] + hours
+
+    def share(self):
+        people_count = self.world.people_count
+        return [people_count] + [kept_cost(self.world, person) for person in range(people_count)]

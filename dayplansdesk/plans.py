@@ -8,9 +8,16 @@ ROOMS = 2
 MEETING = 3
 DROP = 4
 PIN = 5
+BEST = 6
+KEEP = 7
+NEAREST = 8
+MOVE = 9
+WAY = 10
+COUNT = 11
+KEPT = 12
 
-# By a call's number, from begin to best, how many whole numbers follow it; of meeting its row's length alone.
-NUMBER_COUNTS = (2, 3, 2, 1, 1, 2, 0)
+# By a call's number, from begin to share, how many whole numbers follow it; of meeting its row's length alone.
+NUMBER_COUNTS = (2, 3, 2, 1, 1, 2, 0, 0, 0, 0, 0, 0, 0, 0)
 
 
 def call_end(calls, start):
@@ -36,7 +43,21 @@ def answer_of(desk, call):
         return desk.drop(call[1])
     if code == PIN:
         return desk.pin(call[1], call[2])
-    return desk.best()
+    if code == BEST:
+        return desk.best()
+    if code == KEEP:
+        return desk.keep()
+    if code == NEAREST:
+        return desk.nearest()
+    if code == MOVE:
+        return desk.move()
+    if code == WAY:
+        return desk.way()
+    if code == COUNT:
+        return desk.count()
+    if code == KEPT:
+        return desk.kept()
+    return desk.share()
 
 
 def answers(calls):

@@ -1,5 +1,6 @@
 """Plans: a plan of some meetings is the list of their hours, in the meetings' order."""
 
+from dayplansdesk.keeping import moved_count
 from dayplansdesk.world import CANNOT
 
 
@@ -58,3 +59,35 @@ def best_plan(world):
     plans = possible_plans(world, meetings)
     # Of equals min takes the one that comes first, and the plans come in order.
     return min(plans, key=lambda plan: plan_cost(world, meetings, plan), default=None)
+
+
+def nearest_plan(world):
+    """Of the plans that move the fewest meetings the first of the cheapest, or None if no plan can be."""
+    meetings = world.meetings
+    plans = possible_plans(world, meetings)
+    # As with the best plan, of equals min takes the first.
+    return min(plans, key=lambda plan: (moved_count(meetings, plan), plan_cost(world, meetings, plan)), default=None)
+
+
+def can_all_be(world, numbers):
+    return len(possible_plans(world, [world.meetings[number] for number in numbers])) > 0
+
+
+def one_longer(groups, most):
+    """Each group with each number below most that's higher than all of its own, in order if the groups are."""
+    longer = []
+    for group in groups:
+        longer.extend([group + [number] for number in range(max(group, default=-1) + 1, most)])
+    return longer
+
+
+def in_the_way(world):
+    """The numbers of the fewest meetings that can't all be, of as few the first; None if all can be."""
+    groups = [[]]
+    # Small groups come ahead of greater ones, so the first that can't be is one of the fewest.
+    while len(groups) > 0:
+        for group in groups:
+            if not can_all_be(world, group):
+                return group
+        groups = one_longer(groups, len(world.meetings))
+    return None

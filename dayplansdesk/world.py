@@ -1,6 +1,7 @@
 """What there is: people, hours, rooms and meetings."""
 
 CANNOT = 100
+NOTHING_KEPT = -1
 
 
 class Meeting:
@@ -9,6 +10,7 @@ class Meeting:
     def __init__(self, people, pinned):
         self.people = people
         self.pinned = pinned
+        self.kept_hour = NOTHING_KEPT
 
 
 class World:

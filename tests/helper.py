@@ -3,6 +3,13 @@
 from dayplansdesk.plans import answers
 
 BEST = [6]
+KEEP = [7]
+NEAREST = [8]
+MOVE = [9]
+WAY = [10]
+COUNT = [11]
+KEPT = [12]
+SHARE = [13]
 
 
 def begin(people, hours):
@@ -27,6 +34,11 @@ def drop(number):
 
 def pin(number, hour):
     return [5, number, hour]
+
+
+def prices(person, *of_hours):
+    """A cost call for each hour."""
+    return [cost(person, hour, price) for hour, price in enumerate(of_hours)]
 
 
 def line(*calls):

@@ -2,11 +2,7 @@ import itertools
 import random
 import unittest
 
-from helper import BEST, ask, begin, cost, drop, last, meeting, pin, rooms
-
-
-def prices(person, *of_hours):
-    return [cost(person, hour, price) for hour, price in enumerate(of_hours)]
+from helper import BEST, ask, begin, cost, drop, last, meeting, pin, prices, rooms
 
 
 class BestByHand(unittest.TestCase):
